@@ -2,6 +2,7 @@ package tests
 
 import (
 	"fmt"
+	"iter"
 	"math"
 	"math/big"
 	"math/rand"
@@ -513,24 +514,53 @@ func TestEliminationOfZeros(t *testing.T) {
 	}
 }
 
+// smallVectors gives all vectors of n integers, at least 1, from least to most.
+func smallVectors(n int, least int, most int) iter.Seq[[]impl.Rat] {
+	return func(yield func(v []impl.Rat) bool) {
+		numbers := slices.Repeat([]int{least}, n)
+		for i := 0; i < n; {
+			v := []impl.Rat{}
+			for _, number := range numbers {
+				v = append(v, whole(number))
+			}
+			if !yield(v) {
+				return
+			}
+			for i = 0; i < n && numbers[i] == most; i++ {
+				numbers[i] = least
+			}
+			if i < n {
+				numbers[i]++
+			}
+		}
+	}
+}
+
+// matricesOfWrongSizes returns matrices whose numbers of rows, columns or elements make them invalid.
+func matricesOfWrongSizes() []impl.Matrix {
+	var list []impl.Matrix
+	sizes := []int{-25, -2, -1, 0, 1, 2, 5, 12, 24, 25, 26, 576, math.MinInt64, math.MaxInt64, 1 << 32, 1 << 62}
+	for _, rows := range sizes {
+		for _, cols := range sizes {
+			for _, n := range []int{0, 1, 2, 4, 24, 25, 144, 576, 600, 625, rows * cols, rows*cols - 1, rows*cols + 1} {
+				isValid := min(rows, cols) >= 0 && max(rows, cols) <= matrixMost && n == rows*cols
+				if n >= 0 && n <= 1000 && !isValid {
+					list = append(list, impl.Matrix{Rows: rows, Cols: cols, Cells: slices.Repeat([]impl.Rat{whole(1)}, n)})
+				}
+			}
+		}
+	}
+	return list
+}
+
 // TestEliminationOfAllSmallMatrices takes all matrices of some sizes whose elements are among a few integers.
 func TestEliminationOfAllSmallMatrices(t *testing.T) {
 	for _, c := range []struct{ rows, cols, least, most int }{{1, 1, -3, 3}, {1, 2, -2, 2}, {2, 1, -2, 2}, {2, 2, -2, 2}, {2, 3, -1, 1}, {3, 2, -1, 1}, {1, 4, -1, 1}, {4, 1, -1, 1}, {3, 3, 0, 1}, {2, 4, 0, 1}, {4, 2, 0, 1}, {3, 4, 0, 1}} {
-		numbers := slices.Repeat([]int{c.least}, c.rows*c.cols)
-		for i := 0; i < len(numbers); {
-			m := impl.Matrix{Rows: c.rows, Cols: c.cols}
-			for _, n := range numbers {
-				m.Cells = append(m.Cells, whole(n))
-			}
+		for cells := range smallVectors(c.rows*c.cols, c.least, c.most) {
+			m := impl.Matrix{Rows: c.rows, Cols: c.cols, Cells: cells}
 			checkElimination(t, m)
 			if c.rows == c.cols {
 				checkSystem(t, m, vectorOf("1 0 -2/3")[:c.rows])
-			}
-			for i = 0; i < len(numbers) && numbers[i] == c.most; i++ {
-				numbers[i] = c.least
-			}
-			if i < len(numbers) {
-				numbers[i]++
 			}
 		}
 	}
@@ -876,18 +906,8 @@ func TestEliminationOfInvalidMatrices(t *testing.T) {
 			}
 		}
 	}
-	sizes := []int{-25, -2, -1, 0, 1, 2, 5, 12, 24, 25, 26, 576, math.MinInt64, math.MaxInt64, 1 << 32, 1 << 62}
-	for _, rows := range sizes {
-		for _, cols := range sizes {
-			for _, n := range []int{0, 1, 2, 4, 24, 25, 144, 576, 600, 625, rows * cols, rows*cols - 1, rows*cols + 1} {
-				isValid := min(rows, cols) >= 0 && max(rows, cols) <= matrixMost && n == rows*cols
-				if n < 0 || n > 1000 || isValid {
-					continue
-				}
-				m := impl.Matrix{Rows: rows, Cols: cols, Cells: slices.Repeat([]impl.Rat{whole(1)}, n)}
-				checkNoElimination(t, sizeOf(m), m)
-			}
-		}
+	for _, m := range matricesOfWrongSizes() {
+		checkNoElimination(t, sizeOf(m), m)
 	}
 }
 
